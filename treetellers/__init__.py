@@ -1,0 +1,1 @@
+"""Treetellers: rules that tell trees of trees."""
