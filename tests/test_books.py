@@ -3,7 +3,11 @@
 import unittest
 
 from helping import ANY, LEAF, NUMBER_KINDS, TOP, chain, do, tree
-from treetellers.errors import BadBook
+from treetellers.anew import Teller
+from treetellers.errors import BadBook, NotKeeping
+from treetellers.keeping import accepted, closed, parted, shows
+from treetellers.notes import read_rules, written_rules
+from treetellers.origins import comes_of, origins
 from treetellers.telling import all_told, told
 from treetellers.walks import made, sets_at, walked
 
@@ -22,6 +26,26 @@ class Books(unittest.TestCase):
         sets_at(book, SEED)
         walk = made(book)
         walked(book, walk, SEED)
+        origins(book, SEED)
+        comes_of(book, SEED, ())
+        Teller(book, SEED).change((), tree("e"))
+        self.assertEqual(read_rules(written_rules(book)), book)
+        for call in self.keeping_calls(book):
+            try:
+                call()
+            except NotKeeping:
+                pass
+
+    def keeping_calls(self, book):
+        return (
+            lambda: accepted(book, 0),
+            lambda: parted(book, []),
+            lambda: parted([], book),
+            lambda: shows(book, [], []),
+            lambda: shows([], book, []),
+            lambda: closed(book, []),
+            lambda: closed([], book),
+        )
 
     def bad(self, book, number):
         calls = (
@@ -30,6 +54,11 @@ class Books(unittest.TestCase):
             lambda: sets_at(book, SEED),
             lambda: made(book),
             lambda: walked(book, made([]), SEED),
+            lambda: origins(book, SEED),
+            lambda: comes_of(book, SEED, ()),
+            lambda: Teller(book, SEED),
+            lambda: written_rules(book),
+            *self.keeping_calls(book),
         )
         for call in calls:
             with self.assertRaises(BadBook) as caught:
@@ -192,7 +221,16 @@ class Rules(Books):
         self.bad(tuple([GOOD]), 0)
 
     def test_bad_book_ahead_of_bad_tree(self):
-        for call in (told, all_told, sets_at, lambda book, whole: walked(book, made([]), whole)):
+        calls = (
+            told,
+            all_told,
+            sets_at,
+            origins,
+            Teller,
+            lambda book, whole: walked(book, made([]), whole),
+            lambda book, whole: comes_of(book, whole, (5,)),
+        )
+        for call in calls:
             with self.assertRaises(BadBook):
                 call([None], ("g", ()))
 

@@ -8,6 +8,20 @@ PACKAGE = pathlib.Path(__file__).resolve().parent.parent / "treetellers"
 FILES = sorted(PACKAGE.glob("*.py"))
 BARRED = (ast.Global, ast.AsyncFunctionDef, ast.Await, ast.AnnAssign, ast.Div, ast.GeneratorExp, ast.Import)
 
+INTERFACE = {
+    "telling": {"told": ["book", "tree"], "all_told": ["book", "tree"]},
+    "walks": {"sets_at": ["book", "tree"], "made": ["book"], "walked": ["book", "walk", "tree"]},
+    "origins": {"origins": ["book", "tree"], "comes_of": ["book", "tree", "place"]},
+    "anew": {"Teller": ["self", "book", "tree"]},
+    "keeping": {
+        "accepted": ["book", "state"],
+        "parted": ["one", "other"],
+        "closed": ["one", "other"],
+        "shows": ["one", "other", "pairs"],
+    },
+    "notes": {"written": ["tree"], "read": ["text"], "written_rules": ["book"], "read_rules": ["text"]},
+}
+
 
 class Language(unittest.TestCase):
     def test_the_folder_contains_nothing_else(self):
@@ -45,11 +59,24 @@ class Language(unittest.TestCase):
                     self.assertEqual(node.level, 0, path)
 
     def test_each_name_of_the_interface_is_defined_in_its_file(self):
-        for name, wanted in (("telling", ("told", "all_told")), ("walks", ("sets_at", "made", "walked"))):
+        for name, wanted in INTERFACE.items():
             code = ast.parse((PACKAGE / f"{name}.py").read_text("utf-8"))
-            defined = [node.name for node in code.body if isinstance(node, ast.FunctionDef)]
-            for one in wanted:
-                self.assertIn(one, defined)
+            defined = {node.name: node for node in code.body if isinstance(node, (ast.FunctionDef, ast.ClassDef))}
+            for one, arguments in wanted.items():
+                self.assertEqual([argument.arg for argument in self.function(defined[one]).args.args], arguments)
+
+    def function(self, node):
+        return node if isinstance(node, ast.FunctionDef) else self.methods(node)["__init__"]
+
+    def methods(self, node):
+        return {method.name: method for method in node.body if isinstance(method, ast.FunctionDef)}
+
+    def test_the_teller_has_its_methods_itself(self):
+        code = ast.parse((PACKAGE / "anew.py").read_text("utf-8"))
+        teller = [node for node in code.body if isinstance(node, ast.ClassDef)][0]
+        methods = self.methods(teller)
+        for name, arguments in (("tree_now", []), ("tells", []), ("change", ["place", "new"])):
+            self.assertEqual([argument.arg for argument in methods[name].args.args], ["self", *arguments])
 
 
 if __name__ == "__main__":

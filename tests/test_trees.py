@@ -3,7 +3,10 @@
 import unittest
 
 from helping import ANY, chain, places, tree
+from treetellers.anew import Teller
 from treetellers.errors import BadTree
+from treetellers.notes import read, written
+from treetellers.origins import comes_of, origins
 from treetellers.telling import all_told, told
 from treetellers.walks import made, sets_at, walked
 
@@ -29,6 +32,14 @@ class Trees(unittest.TestCase):
         self.assertEqual(all_told(BOOK, whole), [("e", ())])
         self.assertEqual(walked(BOOK, WALK, whole), ("e", ()))
         self.assertEqual(sets_at(BOOK, whole), [(0,)] * len(places(whole)))
+        self.assertEqual(origins(BOOK, whole), [((), (), 0)])
+        for place, _ in places(whole):
+            self.assertEqual(comes_of(BOOK, whole, place), [] if place else [()])
+        self.assertEqual(Teller(BOOK, whole).tree_now(), whole)
+        teller = Teller(BOOK, tree("f", tree("f")))
+        self.assertEqual(teller.change((), whole), [((), 0)])
+        self.assertEqual((teller.tree_now(), teller.tells()), (whole, ("e", ())))
+        self.assertEqual(read(written(whole)), whole)
 
     def bad(self, whole, place):
         calls = (
@@ -37,6 +48,13 @@ class Trees(unittest.TestCase):
             lambda: walked(BOOK, WALK, whole),
             lambda: sets_at(BOOK, whole),
             lambda: told([], whole),
+            lambda: origins(BOOK, whole),
+            lambda: comes_of(BOOK, whole, ()),
+            lambda: comes_of(BOOK, whole, (5,)),
+            lambda: Teller(BOOK, whole),
+            lambda: Teller(BOOK, tree("f")).change((), whole),
+            lambda: Teller(BOOK, chain("f", 12)).change((0,) * 11, whole),
+            lambda: written(whole),
         )
         for call in calls:
             with self.assertRaises(BadTree) as caught:

@@ -1,6 +1,6 @@
 """What trees and books are, and which patterns and spots fit where."""
 
-from treetellers.errors import BadBook, BadTree
+from treetellers.errors import BadBook, BadPlace, BadTree
 
 LETTERS = ("a", "b", "c", "d", "e", "f")
 ANY = ("any",)
@@ -46,6 +46,14 @@ def places_of(tree):
         for number in reversed(range(len(kids))):
             waiting.append((place + (number,), kids[number]))
     return standing
+
+
+def check_place(place, standing):
+    """Refuses what is none of the places that stand."""
+    # True and False would be found as 1 and 0, so that looking the place up is not enough.
+    has_form_of_place = isinstance(place, tuple) and all([is_number(kid, MOST_KIDS - 1) for kid in place])
+    if not has_form_of_place or place not in standing:
+        raise BadPlace("the tree has no such place")
 
 
 def check_book(book):
